@@ -1,0 +1,1 @@
+"""Terms held equal or different, and what follows."""
