@@ -27,6 +27,10 @@ def head_by_parts(made, heads, term):
     return NONE
 
 
+def numbers_with_head(heads, head):
+    return [number for number in range(len(heads)) if heads[number] == head]
+
+
 def merged(heads, a, b):
     low = min(heads[a], heads[b])
     high = max(heads[a], heads[b])

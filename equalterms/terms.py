@@ -1,6 +1,7 @@
 """The calls on one object of terms, and what they answer."""
 
-from equalterms.equality import NONE, head_by_parts, heads_after_join
+from equalterms.depth import least_depths
+from equalterms.equality import NONE, head_by_parts, heads_after_join, numbers_with_head
 
 INIT = 0
 TERM = 1
@@ -8,8 +9,14 @@ FIND = 2
 JOIN = 3
 PART = 4
 SAME = 5
+HEAD = 6
+SIZE = 7
+DEPTH = 8
+LIST = 9
+MARK = 10
+BACK = 11
 
-HOW_MANY_GIVEN = {0: 0, 1: 3, 2: 3, 3: 2, 4: 2, 5: 2}
+HOW_MANY_GIVEN = {0: 0, 1: 3, 2: 3, 3: 2, 4: 2, 5: 2, 6: 1, 7: 1, 8: 1, 9: 1, 10: 0, 11: 0}
 
 REFUSED = -2
 NOT_DONE = -1
@@ -21,6 +28,7 @@ DIFFERENT = 2
 
 MOST_TERMS = 512
 MOST_SAYINGS = 1024
+MOST_MARKS = 64
 
 
 class Terms:
@@ -32,6 +40,7 @@ class Terms:
         self.heads = []
         self.join_count = 0
         self.parted = []
+        self.marks = []
 
     def has(self, number):
         return 0 <= number < len(self.made)
@@ -117,6 +126,48 @@ class Terms:
                 return True
         return False
 
+    def answer_head(self, a):
+        if not self.has(a):
+            return REFUSED
+        return self.heads[a]
+
+    def answer_size(self, a):
+        if not self.has(a):
+            return REFUSED
+        return len(self.equal_to(a))
+
+    def answer_depth(self, a):
+        if not self.has(a):
+            return REFUSED
+        return least_depths(self.made, self.heads)[self.heads[a]]
+
+    def answer_list(self, a):
+        # The one call that may answer several numbers, so that all it answers comes as a list.
+        if not self.has(a):
+            return [REFUSED]
+        equal = self.equal_to(a)
+        return [len(equal)] + equal
+
+    def equal_to(self, a):
+        return numbers_with_head(self.heads, self.heads[a])
+
+    def answer_mark(self):
+        if len(self.marks) >= MOST_MARKS:
+            return REFUSED
+        # Copies, since term and part lengthen these lists where they lie.
+        self.marks.append((list(self.made), list(self.heads), self.join_count, list(self.parted)))
+        return len(self.marks)
+
+    def answer_back(self):
+        if len(self.marks) == 0:
+            return NOT_DONE
+        mark = self.marks.pop()
+        self.made = mark[0]
+        self.heads = mark[1]
+        self.join_count = mark[2]
+        self.parted = mark[3]
+        return DONE
+
 
 def answer(held, call, given):
     if call == INIT:
@@ -129,7 +180,23 @@ def answer(held, call, given):
         return held.answer_join(given[0], given[1])
     if call == PART:
         return held.answer_part(given[0], given[1])
-    return held.answer_same(given[0], given[1])
+    if call == SAME:
+        return held.answer_same(given[0], given[1])
+    if call == HEAD:
+        return held.answer_head(given[0])
+    if call == SIZE:
+        return held.answer_size(given[0])
+    if call == DEPTH:
+        return held.answer_depth(given[0])
+    if call == MARK:
+        return held.answer_mark()
+    return held.answer_back()
+
+
+def all_answered(held, call, given):
+    if call == LIST:
+        return held.answer_list(given[0])
+    return [answer(held, call, given)]
 
 
 def answers(calls):
@@ -138,7 +205,8 @@ def answers(calls):
     at = 0
     while at < len(calls):
         behind = at + 1 + HOW_MANY_GIVEN[calls[at]]
-        told.append(1)
-        told.append(answer(held, calls[at], calls[at + 1:behind]))
+        numbers = all_answered(held, calls[at], calls[at + 1:behind])
+        told.append(len(numbers))
+        told.extend(numbers)
         at = behind
     return told

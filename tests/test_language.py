@@ -1,6 +1,7 @@
 """The rules of form that a reading of the package's own files can check."""
 
 import ast
+import builtins
 import os
 import re
 import unittest
@@ -102,7 +103,7 @@ class LanguageTest(unittest.TestCase):
     def test_names(self):
         for path, tree in self.each_tree():
             bound = bound_names(tree)
-            self.assertEqual(bound & BUILT_IN, set(), path)
+            self.assertEqual(bound & set(dir(builtins)) - {"__init__"}, set(), path)
             for name in bound - {"__init__"}:
                 self.assertRegex(name, r"^[A-Za-z][A-Za-z0-9_]*$", path)
             used = {node.id for node in ast.walk(tree) if isinstance(node, ast.Name)}

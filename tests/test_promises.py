@@ -1,17 +1,12 @@
-"""Promises 1 to 6, each with ordinary inputs, its edges and wrong inputs."""
+"""Promises 1 to 6 (of 1, what it says of terms and sayings), each with ordinary inputs, its edges and wrong inputs."""
 
 import unittest
 
 from equalterms.terms import Terms
 from lines import (
-    LEAST, MOST, TOP_SIGN, WRONG_NUMBERS, ask, ask_last, find, init, join, part, same, term,
+    FOUR_SIGNS, LEAST, MOST, THREE_SIGNS, TOP_SIGN, TWO_TOWERS, WRONG_NUMBERS, ask, ask_last, find, init, join, part,
+    same, term,
 )
-
-THREE_SIGNS = (term(10), term(11), term(12))
-FOUR_SIGNS = THREE_SIGNS + (term(13),)
-
-# 0: a, 1: b, 2: g(a), 3: g(b), 4: h(g(a)), 5: h(g(b))
-TWO_TOWERS = (term(10), term(11), term(20, 0), term(20, 1), term(21, 2), term(21, 3))
 
 # What a call that changes nothing must leave as it was, for the terms 0 to 2 of THREE_SIGNS.
 LOOK_AT_THREE = (
